@@ -1,0 +1,1 @@
+"""Fit to fly: a book of the parts of aeroplanes, and of what was done to them."""

@@ -1,0 +1,9 @@
+"""The numbers by which calls are refused, without the minus sign that each is answered with."""
+
+UNKNOWN = 2
+IN_NONE = 11
+TOO_EARLY = 13
+BUSY = 16
+INVALID = 22
+FULL = 28
+OUT_OF_STEP = 71
