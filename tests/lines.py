@@ -1,6 +1,7 @@
 """Writes lists of calls for the tests, and reads their answers apart."""
 
-from flightbook.desk import answers
+from flightbook.book import Book
+from flightbook.desk import answers, kinds_of
 
 TOP = 4294967295
 
@@ -63,3 +64,12 @@ def ask(*calls):
     if len(told) != len(calls):
         raise AssertionError(f"{len(calls)} calls, {len(told)} answers")
     return [answer[0] for answer in told]
+
+
+def book_with_parts(how_many, day):
+    """A book itself, for what no call of a list brings about yet, such as an aeroplane that is away."""
+    book = Book()
+    book.ft_start(kinds_of(kinds(1)))
+    for number in range(how_many):
+        book.ft_part(0, day)
+    return book

@@ -1,22 +1,12 @@
 import unittest
 
-from flightbook.book import Book
 from flightbook.dates import day_number
-from flightbook.desk import kinds_of
-from tests.lines import TOP, ask, date, did, kinds, part, put, start, take
+from tests.lines import TOP, ask, book_with_parts, date, did, part, put, start, take
 
 EARLY = date(2026, 11, 18)
 MIDDLE = date(2026, 11, 19)
 LATE = date(2026, 11, 20)
 NO_DATE = date(2026, 11, 31)
-
-
-def book_with_parts(how_many):
-    book = Book()
-    book.ft_start(kinds_of(kinds(1)))
-    for number in range(how_many):
-        book.ft_part(0, EARLY)
-    return book
 
 
 class ATaskIsDone(unittest.TestCase):
@@ -32,7 +22,7 @@ class ATaskIsDone(unittest.TestCase):
             [0, 0, 0, 0, 0, 0, 0])
 
     def test_just_that_task_of_just_that_part_begins_anew(self):
-        book = book_with_parts(2)
+        book = book_with_parts(2, EARLY)
         for each in book.parts:
             each.minutes = 500
             each.landings = 9
@@ -75,7 +65,7 @@ class ATaskIsRefused(unittest.TestCase):
         self.assertEqual(ask(start(1), part(0, MIDDLE), did(0, 0, EARLY), did(0, 0, MIDDLE)), [0, 0, -13, 0])
 
     def test_in_an_aeroplane_that_is_away(self):
-        book = book_with_parts(2)
+        book = book_with_parts(2, EARLY)
         book.ft_put(0, 4, 0)
         book.ft_put(1, 5, 0)
         book.planes[4].let_go_for = 1
@@ -94,7 +84,7 @@ class ATaskIsRefused(unittest.TestCase):
         self.assertEqual(ask(start(1), part(0, LATE), did(1, 0, NO_DATE), did(1, 0, EARLY)), [0, 0, -2, -2])
 
     def test_all_others_ahead_of_away(self):
-        book = book_with_parts(1)
+        book = book_with_parts(1, EARLY)
         book.ft_put(0, 4, 0)
         book.planes[4].let_go_for = 60
         book.latest_day = day_number(MIDDLE)

@@ -1,8 +1,6 @@
 import unittest
 
-from flightbook.book import Book
-from flightbook.desk import kinds_of
-from tests.lines import TOP, ask, date, kinds, part, put, start, take
+from tests.lines import TOP, ask, book_with_parts, date, part, put, start, take
 
 DAY = date(2026, 11, 19)
 
@@ -13,14 +11,6 @@ def with_parts(how_many):
 
 def told_behind(before, *calls):
     return ask(*before, *calls)[len(before):]
-
-
-def book_with_parts(how_many):
-    book = Book()
-    book.ft_start(kinds_of(kinds(1)))
-    for number in range(how_many):
-        book.ft_part(0, DAY)
-    return book
 
 
 class APartIsPutIn(unittest.TestCase):
@@ -35,12 +25,12 @@ class APartIsPutIn(unittest.TestCase):
             [0, -16, 0, 0, -16, 0, 0])
 
     def test_it_is_in_just_that_aeroplane(self):
-        book = book_with_parts(3)
+        book = book_with_parts(3, DAY)
         self.assertEqual(book.ft_put(1, 4, 0), 0)
         self.assertEqual([held.plane for held in book.parts], [None, 4, None])
 
     def test_as_many_flights_as_that_one_has_flown(self):
-        book = book_with_parts(1)
+        book = book_with_parts(1, DAY)
         book.planes[4].flown = 7
         self.assertEqual(book.ft_put(0, 4, 0), -71)
         self.assertEqual(book.ft_put(0, 4, 6), -71)
@@ -81,7 +71,7 @@ class APartIsNotPutIn(unittest.TestCase):
             [0, -16, -16])
 
     def test_that_one_is_away(self):
-        book = book_with_parts(2)
+        book = book_with_parts(2, DAY)
         book.planes[4].let_go_for = 1
         self.assertEqual(book.ft_put(0, 4, 0), -16)
         self.assertEqual(book.ft_put(0, 5, 0), 0)
@@ -97,14 +87,14 @@ class APartIsNotPutIn(unittest.TestCase):
             [-22, 0, -22, -22])
 
     def test_no_such_part_ahead_of_those_that_follow(self):
-        book = book_with_parts(1)
+        book = book_with_parts(1, DAY)
         book.planes[4].let_go_for = 60
         self.assertEqual(book.ft_put(1, 4, 1), -2)
         self.assertEqual(told_behind(with_parts(1), put(1, 0, 1)), [-2])
 
     def test_in_an_aeroplane_or_away_ahead_of_another_number_of_flights(self):
         self.assertEqual(told_behind(with_parts(1), put(0, 0), put(0, 1, 1), put(0, 0, 1)), [0, -16, -16])
-        book = book_with_parts(1)
+        book = book_with_parts(1, DAY)
         book.planes[4].let_go_for = 60
         self.assertEqual(book.ft_put(0, 4, 1), -16)
 

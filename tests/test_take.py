@@ -1,16 +1,12 @@
 import unittest
 
-from flightbook.book import Book
-from flightbook.desk import kinds_of
-from tests.lines import TOP, ask, date, kinds, part, put, start, take
+from tests.lines import TOP, ask, book_with_parts, date, part, put, start, take
 
 DAY = date(2026, 11, 19)
 
 
 def book_with_part_in(plane):
-    book = Book()
-    book.ft_start(kinds_of(kinds(1)))
-    book.ft_part(0, DAY)
+    book = book_with_parts(1, DAY)
     book.ft_put(0, plane, 0)
     return book
 
