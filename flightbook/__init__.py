@@ -1,1 +1,1 @@
-"""Fit to fly: a book of the parts of aeroplanes, and of what was done to them."""
+"""Fit to fly: a book of the parts of aeroplanes, of what they flew, and of what was done to them."""

@@ -7,9 +7,14 @@ START = 0
 PART = 1
 PUT = 2
 TAKE = 3
+DID = 4
+GO = 5
+BARS = 6
+FLEW = 7
+LEFT = 8
 
-# How many numbers stand behind the number of each call, ft_did last; of a start it is the length of its kinds.
-CALL_LENGTHS = (1, 2, 3, 2, 3)
+# How many numbers stand behind the number of each call, ft_of last; of a start it is the length of its kinds.
+CALL_LENGTHS = (1, 2, 3, 2, 3, 3, 3, 3, 2, 1)
 
 KIND_LENGTH = 12
 
@@ -52,8 +57,18 @@ def answer_call(book, reader):
         return [book.ft_put(row[0], row[1], row[2])]
     if call == TAKE:
         return [book.ft_take(row[0], row[1])]
-    # No other call has a length above, so this one is ft_did.
-    return [book.ft_did(row[0], row[1], row[2])]
+    if call == DID:
+        return [book.ft_did(row[0], row[1], row[2])]
+    if call == GO:
+        return [book.ft_go(row[0], row[1], row[2])]
+    if call == BARS:
+        return book.ft_bars(row[0], row[1], row[2])
+    if call == FLEW:
+        return [book.ft_flew(row[0], row[1], row[2])]
+    if call == LEFT:
+        return book.ft_left(row[0], row[1])
+    # No other call has a length above, so this one is ft_of.
+    return book.ft_of(row[0])
 
 
 def answers(calls):

@@ -1,13 +1,28 @@
 """Writes lists of calls for the tests, and reads their answers apart."""
 
-from flightbook.book import Book
-from flightbook.desk import answers, kinds_of
+import datetime
+
+from flightbook.desk import answers
 
 TOP = 4294967295
 
 
 def date(year, month, day):
     return year + 4096 * month + 65536 * day
+
+
+NO_DATE = date(2026, 11, 31)
+
+
+def day_of(days):
+    """The date that is so many days behind the 19th of November 2026."""
+    there = datetime.date(2026, 11, 19) + datetime.timedelta(days=days)
+    return date(there.year, there.month, there.day)
+
+
+def limits(minutes=(0, 0, 0, 0), landings=(0, 0, 0, 0), days=(0, 0, 0, 0)):
+    """The twelve numbers of one kind; without more said it has no limit."""
+    return [*minutes, *landings, *days]
 
 
 def kinds(how_many):
@@ -38,6 +53,34 @@ def did(number, task, day):
     return [4, number, task, day]
 
 
+def go(plane, day, minutes):
+    return [5, plane, day, minutes]
+
+
+def bars(plane, day, minutes):
+    return [6, plane, day, minutes]
+
+
+def flew(plane, number, minutes):
+    return [7, plane, number, minutes]
+
+
+def left(plane, day):
+    return [8, plane, day]
+
+
+def of(number):
+    return [9, number]
+
+
+def flights(plane, first, how_many, day, minutes):
+    """Calls that let flights go and tell them as flown, each with as many minutes as it was let go for."""
+    calls = []
+    for number in range(first, first + how_many):
+        calls.extend([go(plane, day, minutes), flew(plane, number, minutes)])
+    return calls
+
+
 def joined(calls):
     line = []
     for call in calls:
@@ -56,20 +99,21 @@ def apart(numbers):
 
 
 def ask(*calls):
-    """Gives the first number of each call's answer, for calls that answer one number alone."""
+    """Gives each call's answer: the number itself where it is answered alone, else the list of numbers."""
     told = apart(answers(joined(calls)))
-    for answer in told:
-        if len(answer) != 1:
-            raise AssertionError(f"not one number: {answer}")
     if len(told) != len(calls):
         raise AssertionError(f"{len(calls)} calls, {len(told)} answers")
-    return [answer[0] for answer in told]
+    return [answer[0] if len(answer) == 1 else answer for answer in told]
 
 
-def book_with_parts(how_many, day):
-    """A book itself, for what no call of a list brings about yet, such as an aeroplane that is away."""
-    book = Book()
-    book.ft_start(kinds_of(kinds(1)))
-    for number in range(how_many):
-        book.ft_part(0, day)
-    return book
+def ask_behind(before, *calls):
+    """Gives the answers of the calls alone that come behind those before."""
+    return ask(*before, *calls)[len(before):]
+
+
+def in_plane(plane, day, *kinds_of_parts):
+    """Calls that begin a book with these kinds, and put one part of each, numbered like its kind, into an aeroplane."""
+    calls = [start_with(joined(kinds_of_parts))]
+    calls.extend([part(number, day) for number in range(len(kinds_of_parts))])
+    calls.extend([put(number, plane) for number in range(len(kinds_of_parts))])
+    return calls

@@ -1,12 +1,11 @@
 import unittest
 
-from flightbook.dates import day_number
-from tests.lines import TOP, ask, book_with_parts, date, did, part, put, start, take
+from tests.lines import (
+    NO_DATE, TOP, ask, ask_behind, date, did, flew, flights, go, in_plane, left, limits, of, part, put, start, take)
 
 EARLY = date(2026, 11, 18)
 MIDDLE = date(2026, 11, 19)
 LATE = date(2026, 11, 20)
-NO_DATE = date(2026, 11, 31)
 
 
 class ATaskIsDone(unittest.TestCase):
@@ -21,28 +20,48 @@ class ATaskIsDone(unittest.TestCase):
             ask(start(1), part(0, EARLY), did(0, 0, EARLY), put(0, 0), did(0, 0, EARLY), take(0), did(0, 0, EARLY)),
             [0, 0, 0, 0, 0, 0, 0])
 
-    def test_just_that_task_of_just_that_part_begins_anew(self):
-        book = book_with_parts(2, EARLY)
-        for each in book.parts:
-            each.minutes = 500
-            each.landings = 9
-            each.minutes_since = [100, 200, 300, 400]
-            each.landings_since = [1, 2, 3, 4]
-        self.assertEqual(book.ft_did(1, 2, LATE), 0)
-        self.assertEqual(book.parts[1].minutes_since, [100, 200, 0, 400])
-        self.assertEqual(book.parts[1].landings_since, [1, 2, 0, 4])
-        early, late = day_number(EARLY), day_number(LATE)
-        self.assertEqual(book.parts[1].done_on, [early, early, late, early])
-        self.assertEqual((book.parts[1].minutes, book.parts[1].landings), (500, 9))
-        self.assertEqual(book.parts[0].minutes_since, [100, 200, 300, 400])
-        self.assertEqual(book.parts[0].landings_since, [1, 2, 3, 4])
-        self.assertEqual(book.parts[0].done_on, [early] * 4)
-
     def test_it_tells_its_date(self):
         self.assertEqual(
             ask(start(1), part(0, EARLY), did(0, 0, MIDDLE), did(0, 1, EARLY), did(0, 1, MIDDLE), did(0, 1, LATE),
                 did(0, 2, MIDDLE)),
             [0, 0, 0, -13, 0, 0, -13])
+
+
+class ATaskThatIsDoneBeginsAnew(unittest.TestCase):
+    def left_of_each_task(self, *between):
+        """What is left behind three flights and the calls between, where just one task of part 0 has limits."""
+        told = []
+        for task in range(4):
+            row = [1000 if place == task else 0 for place in range(4)]
+            before = in_plane(4, EARLY, limits(row, row, row), limits()) + flights(4, 0, 3, EARLY, 50)
+            told.append(ask(*before, *between, left(4, LATE))[-1])
+        return told
+
+    def test_just_that_task(self):
+        as_flown = [2, 850, 997, 998]
+        self.assertEqual(self.left_of_each_task(), [as_flown] * 4)
+        for task in range(4):
+            with self.subTest(task=task):
+                expected = [as_flown] * 4
+                expected[task] = [2, 1000, 1000, 1000]
+                self.assertEqual(self.left_of_each_task(did(0, task, LATE)), expected)
+                expected[task] = [2, 1000, 1000, 999]
+                self.assertEqual(self.left_of_each_task(did(0, task, MIDDLE)), expected)
+
+    def test_just_that_part(self):
+        for task in range(4):
+            with self.subTest(task=task):
+                self.assertEqual(self.left_of_each_task(did(1, task, LATE)), [[2, 850, 997, 998]] * 4)
+
+    def test_it_counts_on_from_there(self):
+        counted_on = self.left_of_each_task(did(0, 2, MIDDLE), *flights(4, 3, 2, MIDDLE, 20))
+        self.assertEqual(counted_on, [[2, 810, 995, 998], [2, 810, 995, 998], [2, 960, 998, 999], [2, 810, 995, 998]])
+
+    def test_what_it_has_flown_in_all_stays(self):
+        self.assertEqual(
+            ask_behind(in_plane(4, EARLY, limits()) + flights(4, 0, 3, EARLY, 50),
+                       *[did(0, task, LATE) for task in range(4)], of(0)),
+            [0, 0, 0, 0, [0, 0, 4, 150, 3]])
 
 
 class ATaskIsRefused(unittest.TestCase):
@@ -65,14 +84,21 @@ class ATaskIsRefused(unittest.TestCase):
         self.assertEqual(ask(start(1), part(0, MIDDLE), did(0, 0, EARLY), did(0, 0, MIDDLE)), [0, 0, -13, 0])
 
     def test_in_an_aeroplane_that_is_away(self):
-        book = book_with_parts(2, EARLY)
-        book.ft_put(0, 4, 0)
-        book.ft_put(1, 5, 0)
-        book.planes[4].let_go_for = 1
-        self.assertEqual(book.ft_did(0, 0, LATE), -16)
-        self.assertEqual(book.parts[0].done_on, [day_number(EARLY)] * 4)
-        # What was refused told no date, so one before it may still come.
-        self.assertEqual(book.ft_did(1, 0, MIDDLE), 0)
+        row = (1000, 0, 0, 0)
+        before = in_plane(4, EARLY, limits(row, row, row), limits()) + flights(4, 0, 1, EARLY, 50)
+        self.assertEqual(
+            ask_behind(before, go(4, EARLY, 60), did(0, 0, LATE), did(1, 0, LATE), left(4, LATE),
+                       flew(4, 1, 60), did(0, 0, LATE), left(4, LATE)),
+            [1, -16, -16, [2, 950, 999, 998], 1, 0, [2, 1000, 1000, 1000]])
+
+    def test_refused_for_one_that_is_away_tells_no_date(self):
+        self.assertEqual(
+            ask_behind(in_plane(4, EARLY, limits()),
+                       go(4, EARLY, 1), did(0, 0, LATE), part(0, EARLY), did(1, 0, EARLY)),
+            [0, -16, 1, 0])
+
+    def test_another_one_away_is_no_matter(self):
+        self.assertEqual(ask_behind(in_plane(4, EARLY, limits()), go(5, EARLY, 1), did(0, 0, LATE)), [0, 0])
 
     def test_no_such_task_ahead_of_no_such_part(self):
         self.assertEqual(ask(start(1), did(0, 4, EARLY), did(0, 4, NO_DATE)), [0, -22, -22])
@@ -84,15 +110,10 @@ class ATaskIsRefused(unittest.TestCase):
         self.assertEqual(ask(start(1), part(0, LATE), did(1, 0, NO_DATE), did(1, 0, EARLY)), [0, 0, -2, -2])
 
     def test_all_others_ahead_of_away(self):
-        book = book_with_parts(1, EARLY)
-        book.ft_put(0, 4, 0)
-        book.planes[4].let_go_for = 60
-        book.latest_day = day_number(MIDDLE)
-        self.assertEqual(book.ft_did(0, 4, LATE), -22)
-        self.assertEqual(book.ft_did(1, 0, LATE), -2)
-        self.assertEqual(book.ft_did(0, 0, NO_DATE), -22)
-        self.assertEqual(book.ft_did(0, 0, EARLY), -13)
-        self.assertEqual(book.ft_did(0, 0, MIDDLE), -16)
+        self.assertEqual(
+            ask_behind(in_plane(4, EARLY, limits()), go(4, MIDDLE, 60), did(0, 4, LATE), did(1, 0, LATE),
+                       did(0, 0, NO_DATE), did(0, 0, EARLY), did(0, 0, MIDDLE)),
+            [0, -22, -2, -22, -13, -16])
 
     def test_refused_tells_no_date(self):
         self.assertEqual(

@@ -1,14 +1,10 @@
 import unittest
 
-from flightbook.book import Book
-from flightbook.dates import day_number
-from flightbook.desk import kinds_of
-from tests.lines import TOP, ask, date, did, kinds, part, put, start
+from tests.lines import NO_DATE, TOP, ask, date, did, joined, left, limits, of, part, put, start, start_with
 
 EARLY = date(2026, 11, 18)
 MIDDLE = date(2026, 11, 19)
 LATE = date(2026, 11, 20)
-NO_DATE = date(2026, 11, 31)
 
 
 class APartComes(unittest.TestCase):
@@ -25,16 +21,16 @@ class APartComes(unittest.TestCase):
         self.assertEqual(ask(start(1), part(0, EARLY), [3, 0, 0], put(0, 0)), [0, 0, -11, 0])
 
     def test_what_it_has_at_first(self):
-        book = Book()
-        book.ft_start(kinds_of(kinds(2)))
-        book.ft_part(1, MIDDLE)
-        came = book.parts[0]
-        self.assertEqual(came.kind, 1)
-        self.assertIsNone(came.plane)
-        self.assertEqual((came.minutes, came.landings), (0, 0))
-        self.assertEqual(came.minutes_since, [0, 0, 0, 0])
-        self.assertEqual(came.landings_since, [0, 0, 0, 0])
-        self.assertEqual(came.done_on, [day_number(MIDDLE)] * 4)
+        self.assertEqual(ask(start(2), part(1, MIDDLE), of(0)), [0, 0, [0, 1, 255, 0, 0]])
+
+    def test_each_task_counts_as_done_on_the_date_on_which_it_came(self):
+        for task in range(4):
+            row = [500 if place == task else 0 for place in range(4)]
+            kinds = joined([limits(), limits(row, row, row)])
+            with self.subTest(task=task):
+                self.assertEqual(
+                    ask(start_with(kinds), part(0, EARLY), part(1, MIDDLE), put(1, 9), left(9, MIDDLE), left(9, LATE)),
+                    [0, 0, 1, 0, [1, 500, 500, 500], [1, 500, 500, 499]])
 
     def test_256_parts_and_no_more(self):
         told = ask(start(1), *[part(0, EARLY) for number in range(258)])

@@ -1,8 +1,7 @@
 import unittest
 
-from flightbook.book import Book
-from flightbook.desk import kinds_of
-from tests.lines import TOP, ask, date, did, kinds, part, put, start, start_with, take
+from tests.lines import (
+    TOP, ask, ask_behind, date, did, flew, flights, go, in_plane, left, limits, of, part, put, start, start_with, take)
 
 EARLY = date(1900, 1, 1)
 LATE = date(2026, 11, 19)
@@ -26,15 +25,16 @@ class HowManyKinds(unittest.TestCase):
 
 class WhatABookBeginsWith(unittest.TestCase):
     def test_limits_are_those_of_each_kind(self):
-        book = Book()
-        self.assertEqual(book.ft_start(kinds_of(list(range(100, 124)))), 0)
-        self.assertEqual(len(book.kinds), 2)
-        self.assertEqual(book.kinds[0].minutes, [100, 101, 102, 103])
-        self.assertEqual(book.kinds[0].landings, [104, 105, 106, 107])
-        self.assertEqual(book.kinds[0].days, [108, 109, 110, 111])
-        self.assertEqual(book.kinds[1].minutes, [112, 113, 114, 115])
-        self.assertEqual(book.kinds[1].landings, [116, 117, 118, 119])
-        self.assertEqual(book.kinds[1].days, [120, 121, 122, 123])
+        numbers = list(range(100, 124))
+        begun = [start_with(numbers), part(0, LATE), part(1, LATE), put(0, 0), put(1, 1)]
+        self.assertEqual(ask_behind(begun, left(0, LATE), left(1, LATE)), [[1, 100, 104, 108], [1, 112, 116, 120]])
+        for place, number in enumerate(numbers):
+            alone = [number if place == other else 0 for other in range(24)]
+            expected = [[1, TOP, TOP, TOP], [1, TOP, TOP, TOP]]
+            expected[place // 12][1 + place % 12 // 4] = number
+            with self.subTest(place=place):
+                begun = [start_with(alone), part(0, LATE), part(1, LATE), put(0, 0), put(1, 1)]
+                self.assertEqual(ask_behind(begun, left(0, LATE), left(1, LATE)), expected)
 
     def test_no_part(self):
         self.assertEqual(ask(start(1), take(0), put(0, 0), did(0, 0, LATE)), [0, -2, -2, -2])
@@ -74,15 +74,21 @@ class StartingAgain(unittest.TestCase):
         self.assertEqual(told, ([0] + list(range(32)) + [0] * 32) * 2)
 
     def test_aeroplanes_have_flown_nothing_and_none_is_away(self):
-        book = Book()
-        book.ft_start(kinds_of(kinds(1)))
-        book.planes[0].flown = 5
-        book.planes[1].let_go_for = 60
-        book.ft_start(kinds_of(kinds(1)))
-        book.ft_part(0, EARLY)
-        self.assertEqual(book.ft_put(0, 0, 0), 0)
-        self.assertEqual(book.ft_take(0, 0), 0)
-        self.assertEqual(book.ft_put(0, 1, 0), 0)
+        before = in_plane(0, LATE, limits()) + flights(0, 0, 5, LATE, 30) + [go(0, LATE, 60), go(1, LATE, 60)]
+        self.assertEqual(
+            ask_behind(before, start(1), flew(0, 0, 30), flew(0, 5, 60), flew(1, 0, 60), of(0), part(0, EARLY),
+                       put(0, 0, 5), put(0, 0), of(0), take(0, 5), take(0), put(0, 1), go(0, EARLY, 1), go(1, EARLY, 1),
+                       flew(0, 0, 1), flew(0, 0, 30)),
+            [0, -2, -2, -2, -2, 0, -71, 0, [0, 0, 0, 0, 0], -71, 0, 0, 0, 0, 1, -17])
+
+    def test_refused_again_leaves_what_was_flown_and_who_is_away(self):
+        before = in_plane(0, LATE, limits()) + flights(0, 0, 5, LATE, 30) + [go(0, LATE, 60)]
+        for how_many in (0, 17, 18):
+            with self.subTest(how_many=how_many):
+                self.assertEqual(
+                    ask_behind(before, start(how_many), go(0, LATE, 1), go(1, EARLY, 1), flew(0, 4, 30), flew(0, 4, 31),
+                               of(0), flew(0, 5, 61), of(0)),
+                    [-22, -16, -13, 0, -17, [0, 0, 0, 150, 5], 2, [0, 0, 0, 211, 6]])
 
     def test_refused_again_leaves_all_as_it_was(self):
         for how_many in (0, 17, 18):

@@ -1,14 +1,12 @@
 import unittest
 
-from tests.lines import TOP, ask, book_with_parts, date, part, put, start, take
+from tests.lines import TOP, ask, ask_behind, date, flew, flights, go, in_plane, limits, of, part, put, start, take
 
 DAY = date(2026, 11, 19)
 
 
-def book_with_part_in(plane):
-    book = book_with_parts(1, DAY)
-    book.ft_put(0, plane, 0)
-    return book
+# One part, in aeroplane 4.
+WITH_PART_IN = in_plane(4, DAY, limits())
 
 
 class APartIsTakenOut(unittest.TestCase):
@@ -23,22 +21,15 @@ class APartIsTakenOut(unittest.TestCase):
             [0, 0, 1, 0, 0, 0, -16, 0])
 
     def test_as_many_flights_as_that_one_has_flown(self):
-        book = book_with_part_in(4)
-        book.planes[4].flown = 7
-        self.assertEqual(book.ft_take(0, 0), -71)
-        self.assertEqual(book.ft_take(0, 6), -71)
-        self.assertEqual(book.ft_take(0, 8), -71)
-        self.assertEqual(book.ft_take(0, 7), 0)
-        self.assertIsNone(book.parts[0].plane)
+        self.assertEqual(
+            ask_behind(WITH_PART_IN + flights(4, 0, 7, DAY, 1),
+                       take(0), take(0, 6), take(0, 8), take(0, TOP), of(0), take(0, 7), of(0)),
+            [-71, -71, -71, -71, [0, 0, 4, 7, 7], 0, [0, 0, 255, 7, 7]])
 
     def test_what_it_has_flown_stays_with_it(self):
-        book = book_with_part_in(4)
-        book.parts[0].minutes = 90
-        book.parts[0].minutes_since[2] = 30
-        book.ft_take(0, 0)
-        book.ft_put(0, 5, 0)
-        self.assertEqual(book.parts[0].minutes, 90)
-        self.assertEqual(book.parts[0].minutes_since, [0, 0, 30, 0])
+        self.assertEqual(
+            ask_behind(WITH_PART_IN + flights(4, 0, 2, DAY, 45), take(0, 2), of(0), put(0, 5), of(0)),
+            [0, [0, 0, 255, 90, 2], 0, [0, 0, 5, 90, 2]])
 
 
 class APartIsNotTakenOut(unittest.TestCase):
@@ -51,15 +42,12 @@ class APartIsNotTakenOut(unittest.TestCase):
         self.assertEqual(ask(start(1), part(0, DAY), take(0)), [0, 0, -11])
 
     def test_that_one_is_away(self):
-        book = book_with_part_in(4)
-        book.planes[4].let_go_for = 1
-        self.assertEqual(book.ft_take(0, 0), -16)
-        self.assertEqual(book.parts[0].plane, 4)
+        self.assertEqual(
+            ask_behind(WITH_PART_IN, go(4, DAY, 1), take(0), of(0), flew(4, 0, 1), take(0, 1)),
+            [0, -16, [0, 0, 4, 0, 0], 1, 0])
 
     def test_another_one_away_is_no_matter(self):
-        book = book_with_part_in(4)
-        book.planes[5].let_go_for = 60
-        self.assertEqual(book.ft_take(0, 0), 0)
+        self.assertEqual(ask_behind(WITH_PART_IN, go(5, DAY, 60), take(0)), [0, 0])
 
     def test_another_number_of_flights(self):
         for flown in (1, 2, TOP):
@@ -73,9 +61,7 @@ class APartIsNotTakenOut(unittest.TestCase):
         self.assertEqual(ask(start(1), part(0, DAY), take(0, 1)), [0, 0, -11])
 
     def test_away_ahead_of_another_number_of_flights(self):
-        book = book_with_part_in(4)
-        book.planes[4].let_go_for = 60
-        self.assertEqual(book.ft_take(0, 1), -16)
+        self.assertEqual(ask_behind(WITH_PART_IN, go(4, DAY, 60), take(0, 1)), [0, -16])
 
     def test_refused_changes_nothing(self):
         self.assertEqual(
